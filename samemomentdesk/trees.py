@@ -1,6 +1,6 @@
 """What a tree comes to: a time, wire and an area, all in parts."""
 
-PARTS = 256
+from samemomentdesk.places import PARTS, in_parts
 
 
 class Outcome:
@@ -14,9 +14,8 @@ class Outcome:
 
 def leaf_outcome(leaf):
     """Of a leaf that is told in whole numbers: (sum, difference, how late it is)."""
-    s = PARTS * leaf[0]
-    t = PARTS * leaf[1]
-    return Outcome(PARTS * leaf[2], 0, (s, s, t, t))
+    place = in_parts(leaf[0], leaf[1])
+    return Outcome(PARTS * leaf[2], 0, (place[0], place[0], place[1], place[1]))
 
 
 def gap(low, high, other_low, other_high):

@@ -8,21 +8,31 @@ MOVE = 2
 SHAPE = 3
 TOLD = 4
 WIRE = 5
+JOINT = 6
+LAY = 7
+LAID = 8
+JUDGE = 9
+LEAST = 10
+RANK = 11
 
 # How many whole numbers a call has, by its number, beside a row: a row tells its own count.
-COUNTS = (0, 3, 4, 0, 0, 0, 1)
+COUNTS = (0, 3, 4, 0, 0, 0, 1, 2, 3, 0, 0, 1, 0)
+
+
+def has_row(call):
+    return call == SHAPE or call == JUDGE
 
 
 def head_length(call):
     """How many numbers stand ahead of what the call is given: its own, and the count of its row."""
-    if call == SHAPE:
+    if has_row(call):
         return 2
     return 1
 
 
 def body_length(calls, at):
     """How many numbers the call that begins at this place is given."""
-    if calls[at] == SHAPE:
+    if has_row(calls[at]):
         return calls[at + 1]
     return COUNTS[calls[at]]
 
@@ -40,7 +50,19 @@ def answer(desk, call, given):
         return desk.tell_shape()
     if call == WIRE:
         return desk.tell_wire()
-    return desk.tell_joint(given[0])
+    if call == JOINT:
+        return desk.tell_joint(given[0])
+    if call == LAY:
+        return desk.lay_out(given[0], given[1])
+    if call == LAID:
+        return desk.tell_laid(given[0], given[1], given[2])
+    if call == JUDGE:
+        return desk.judge(given)
+    if call == LEAST:
+        return desk.take_least()
+    if call == RANK:
+        return desk.take_ranked(given[0])
+    return desk.count_shapes()
 
 
 def answers(calls):

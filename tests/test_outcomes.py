@@ -5,54 +5,9 @@ import random
 import unittest
 from fractions import Fraction
 
-from tests.calling import TOLD, WIRE, ask, ask_last, joint, leaf, move, random_pairs, shape
-
-
-def apart(one, other):
-    """The greater of what sums and differences differ by, between two places."""
-    return max(abs(one[0] - other[0]), abs(one[1] - other[1]))
-
-
-def nearest(area, place):
-    """The place of an area that is nearest to this one."""
-    return (min(max(place[0], area[0]), area[1]), min(max(place[1], area[2]), area[3]))
-
-
-def area_distance(one, other):
-    """Between two nearest places: from any place to the one area, from there to the other, and back."""
-    there = nearest(other, nearest(one, (other[0], other[2])))
-    return apart(there, nearest(one, there))
-
-
-def within(area, r, other, q):
-    """All places r from the one area or nearer, and q from the other."""
-    return (max(area[0] - r, other[0] - q), min(area[1] + r, other[1] + q),
-            max(area[2] - r, other[2] - q), min(area[3] + r, other[3] + q))
-
-
-def comes_to(leaves, pairs):
-    """By the words, in exact fractions of the units that leaves are told in: (time, wire, area) by number."""
-    found = [(Fraction(late), Fraction(0), (Fraction(s), Fraction(s), Fraction(t), Fraction(t)))
-             for s, t, late in leaves]
-    for k in range(0, len(pairs), 2):
-        t1, wire1, area1 = found[pairs[k]]
-        t2, wire2, area2 = found[pairs[k + 1]]
-        time = max(t1, t2, (t1 + t2 + area_distance(area1, area2)) / 2)
-        found.append((time, wire1 + wire2 + time - t1 + time - t2, within(area1, time - t1, area2, time - t2)))
-    return found
-
-
-def in_parts(number):
-    parts = number * 256
-    if parts.denominator != 1:
-        raise AssertionError(f"{number} is not whole in parts")
-    return int(parts)
-
-
-def random_case(chance, n, reach, latest):
-    leaves = [(chance.randint(-reach, reach), chance.randint(-reach, reach), chance.randint(0, latest))
-              for k in range(n)]
-    return leaves, random_pairs(chance, n)
+from tests.calling import (
+    TOLD, WIRE, apart, ask, ask_last, comes_to, in_parts, joint, leaf, move, random_case, shape,
+)
 
 
 def least_by_search(leaves, step, low, high):

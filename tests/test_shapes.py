@@ -4,52 +4,14 @@ import itertools
 import random
 import unittest
 
-from tests.calling import NEW, TOLD, WIRE, ask, ask_last, joint, leaf, random_pairs, shape
-
-
-def some_leaves(n):
-    return [leaf(3 * k * k, 7 * k - 11, k % 3) for k in range(n)]
+from tests.calling import (
+    NEW, TOLD, WIRE, ask, ask_last, is_told_so, joint, leaf, nested, random_pairs, shape, some_leaves,
+    told_of,
+)
 
 
 def accepted(n, numbers):
     return ask_last(*some_leaves(n), shape(*numbers)) == [0]
-
-
-def is_told_so(n, numbers):
-    """By the words: n - 1 pairs, each number made ahead of its use, each but the last one used just once."""
-    if len(numbers) != 2 * (n - 1):
-        return False
-    loose = list(range(n))
-    for k in range(n - 1):
-        first, second = numbers[2 * k], numbers[2 * k + 1]
-        if first not in loose or second not in loose or first == second:
-            return False
-        loose.remove(first)
-        loose.remove(second)
-        loose.append(n + k)
-    return loose == [2 * n - 2]
-
-
-def nested(n, numbers):
-    """The tree that the pairs tell: a leaf's number, or its two sides."""
-    made = list(range(n))
-    for k in range(n - 1):
-        made.append((made[numbers[2 * k]], made[numbers[2 * k + 1]]))
-    return made[-1]
-
-
-def told_of(n, tree):
-    """The pairs of a tree, by the words of told."""
-    if isinstance(tree, int):
-        return []
-    first = told_of(n, tree[0])
-    second = told_of(n, tree[1])
-    behind_first = n + len(first) // 2
-    shifted = [x if x < n else x + behind_first - n for x in second]
-    behind_second = behind_first + len(second) // 2
-    own_first = tree[0] if isinstance(tree[0], int) else behind_first - 1
-    own_second = tree[1] if isinstance(tree[1], int) else behind_second - 1
-    return first + shifted + [own_first, own_second]
 
 
 class Shape(unittest.TestCase):
